@@ -1,0 +1,1 @@
+"""Notes as they're spelled; the functions are in spellednotes.notes."""
