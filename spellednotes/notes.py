@@ -1,4 +1,4 @@
-"""Notes as they're spelled, and the intervals between them."""
+"""Notes as they're spelled, the intervals between them, keys, and what's written in bars."""
 
 DONE = 0
 REFUSED = -1
@@ -11,10 +11,15 @@ LOWEST_OCTAVE = -1
 HIGHEST_OCTAVE = 9
 MOST_STEPS = 100
 MOST_HALVES = 200
+MOST_IN_KEY = 7
+FIFTHS_IN_CIRCLE = 12
+FIFTHS_IN_RAISING = 7
+NUMBERS_IN_NOTE = 3
 
 # One row serves letters and intervals: the usual interval of so many steps is the one up from c to that letter.
 HALVES_ABOVE_C = (0, 2, 4, 5, 7, 9, 11)
 PERFECT_RESTS = (0, 3, 4)
+FIFTHS_OF_LETTERS = (0, 2, 4, -1, 1, 3, 5)
 
 
 def is_note(letter, raised, octave):
@@ -27,6 +32,10 @@ def is_note(letter, raised, octave):
 
 def is_interval(steps, halves):
     return -MOST_STEPS <= steps <= MOST_STEPS and -MOST_HALVES <= halves <= MOST_HALVES
+
+
+def is_key(in_key):
+    return -MOST_IN_KEY <= in_key <= MOST_IN_KEY
 
 
 def step_of(letter, octave):
@@ -80,8 +89,80 @@ def kind_of(steps, halves):
     return other_kind(more)
 
 
-def with_list(first, numbers):
-    return [first, len(numbers)] + list(numbers)
+def fifths_of(letter, raised):
+    return FIFTHS_OF_LETTERS[letter] + FIFTHS_IN_RAISING * raised
+
+
+def interval_fifths(steps, halves):
+    # Fifths don't hang on the octave, so the c of any octave would do.
+    note = moved(0, 0, 0, steps, halves)
+    return fifths_of(note[0], note[1])
+
+
+def moved_key(in_key, steps, halves):
+    fifths = in_key + interval_fifths(steps, halves)
+    while fifths > MOST_IN_KEY:
+        fifths -= FIFTHS_IN_CIRCLE
+    while fifths < -MOST_IN_KEY:
+        fifths += FIFTHS_IN_CIRCLE
+    return fifths
+
+
+def raised_by_key(in_key, letter):
+    # The order of letters, f c g d a e b, is that of their fifths, which begin at -1.
+    place = FIFTHS_OF_LETTERS[letter] + 1
+    if place < in_key:
+        return 1
+    if place >= LETTERS + in_key:
+        return -1
+    return 0
+
+
+def notes_in(numbers):
+    return [
+        tuple(numbers[start:start + NUMBERS_IN_NOTE])
+        for start in range(0, len(numbers), NUMBERS_IN_NOTE)
+    ]
+
+
+def bars_in(numbers):
+    bars = []
+    place = 1
+    while len(bars) < numbers[0]:
+        start = place + 1
+        place = start + NUMBERS_IN_NOTE * numbers[place]
+        bars.append(notes_in(numbers[start:place]))
+    return bars
+
+
+def are_notes(notes):
+    for letter, raised, octave in notes:
+        if not is_note(letter, raised, octave):
+            return False
+    return True
+
+
+def letters_raised_otherwise(in_key, notes):
+    return [letter for letter, raised, octave in notes if raised != raised_by_key(in_key, letter)]
+
+
+def written_bar(in_key, notes, letters_otherwise):
+    """Five numbers for each note; letters_otherwise are those that the bar before raised otherwise than the key."""
+    # Kept by step, since a step is one letter in one octave; what's missing is in force by the key.
+    in_force = {}
+    written = []
+    for letter, raised, octave in notes:
+        step = step_of(letter, octave)
+        by_key = raised_by_key(in_key, letter)
+        sign = [0, 0] if raised == in_force.get(step, by_key) else [1, raised]
+        warned = step not in in_force and raised == by_key and letter in letters_otherwise
+        written.extend([letter, octave] + sign + [1 if warned else 0])
+        in_force[step] = raised
+    return written
+
+
+def counted(numbers):
+    return [len(numbers)] + list(numbers)
 
 
 def between(letter, raised, octave, letter_two, raised_two, octave_two):
@@ -93,7 +174,7 @@ def between(letter, raised, octave, letter_two, raised_two, octave_two):
     direction = direction_of(steps, halves)
     number = direction * steps + 1
     kind = kind_of(direction * steps, direction * halves)
-    return with_list(DONE, [steps, halves, direction, number, kind])
+    return [DONE] + counted([steps, halves, direction, number, kind])
 
 
 def move(letter, raised, octave, steps, halves):
@@ -103,4 +184,25 @@ def move(letter, raised, octave, steps, halves):
     note = moved(letter, raised, octave, steps, halves)
     if not is_note(note[0], note[1], note[2]):
         return [NO_NOTE]
-    return with_list(DONE, note)
+    return [DONE] + counted(note)
+
+
+def key(in_key, steps, halves):
+    """Answers 0, 1, the key moved; or -1 alone."""
+    if not is_key(in_key) or not is_interval(steps, halves):
+        return [REFUSED]
+    return [DONE] + counted([moved_key(in_key, steps, halves)])
+
+
+def write(in_key, bars):
+    """Answers how many bars, then each as a list: letter, octave, 1 and sign or 0 0, 1 if warned of; or -1 alone."""
+    if not is_key(in_key):
+        return [REFUSED]
+    answer = [bars[0]]
+    letters_otherwise = []
+    for notes in bars_in(bars):
+        if not are_notes(notes):
+            return [REFUSED]
+        answer.extend(counted(written_bar(in_key, notes, letters_otherwise)))
+        letters_otherwise = letters_raised_otherwise(in_key, notes)
+    return answer

@@ -25,6 +25,8 @@ class InterfaceTest(unittest.TestCase):
         expected = {
             "between": ["letter", "raised", "octave", "letter_two", "raised_two", "octave_two"],
             "move": ["letter", "raised", "octave", "steps", "halves"],
+            "key": ["in_key", "steps", "halves"],
+            "write": ["in_key", "bars"],
         }
         for name, arguments in expected.items():
             with self.subTest(name=name):
@@ -37,6 +39,11 @@ class InterfaceTest(unittest.TestCase):
             notes.move(0, 0, 4, 0, 0),
             notes.move(0, 0, 4, 0, 4),
             notes.move(0, 0, 4, 0, 201),
+            notes.key(0, 4, 7),
+            notes.key(8, 4, 7),
+            notes.write(0, [0]),
+            notes.write(0, [2, 2, 3, 1, 4, 3, 1, 4, 2, 3, 0, 5, 4, 0, 5]),
+            notes.write(0, [1, 1, 3, 4, 4]),
         )
         for answer in answers:
             with self.subTest(answer=answer):
@@ -51,6 +58,10 @@ class InterfaceTest(unittest.TestCase):
             notes.move(0, 0, 4, 2, 4)
             notes.move(0, 0, 4, 0, 4)
             notes.move(7, 0, 4, 0, 4)
+            notes.key(0, 4, 7)
+            notes.key(8, 4, 7)
+            notes.write(0, [2, 1, 3, 1, 4, 1, 3, 0, 4])
+            notes.write(0, [1, 1, 7, 0, 4])
         self.assertEqual(printed.getvalue(), "")
 
 
