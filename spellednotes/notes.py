@@ -1,4 +1,4 @@
-"""Notes as they're spelled, the intervals between them, keys, and what's written in bars."""
+"""Notes as they're spelled, the intervals between them, keys, what's written in bars, and numbers spelled."""
 
 DONE = 0
 REFUSED = -1
@@ -15,6 +15,13 @@ MOST_IN_KEY = 7
 FIFTHS_IN_CIRCLE = 12
 FIFTHS_IN_RAISING = 7
 NUMBERS_IN_NOTE = 3
+NUMBERS_WITHOUT_SIGN = 3
+NUMBERS_WITH_SIGN = 4
+MOST_NUMBERS = 40
+HIGHEST_SOUND = 127
+NEAR_FIFTHS = 5
+# A key's seven letters lie around this many fifths above the key itself.
+MIDDLE_OF_KEY = 2
 
 # One row serves letters and intervals: the usual interval of so many steps is the one up from c to that letter.
 HALVES_ABOVE_C = (0, 2, 4, 5, 7, 9, 11)
@@ -161,6 +168,104 @@ def written_bar(in_key, notes, letters_otherwise):
     return written
 
 
+def written_bars_in(numbers):
+    """Each bar as a list of letter, octave, and the sign or None."""
+    bars = []
+    place = 1
+    while len(bars) < numbers[0]:
+        count = numbers[place]
+        place += 1
+        written = []
+        while len(written) < count:
+            sign = numbers[place + 3] if numbers[place + 2] == 1 else None
+            written.append((numbers[place], numbers[place + 1], sign))
+            place += NUMBERS_WITHOUT_SIGN if sign is None else NUMBERS_WITH_SIGN
+        bars.append(written)
+    return bars
+
+
+def are_written(written):
+    for letter, octave, sign in written:
+        if not is_note(letter, 0 if sign is None else sign, octave):
+            return False
+    return True
+
+
+def read_bar(in_key, written):
+    """Three numbers for each note."""
+    in_force = {}
+    notes = []
+    for letter, octave, sign in written:
+        step = step_of(letter, octave)
+        if sign is not None:
+            in_force[step] = sign
+        notes.extend([letter, in_force.get(step, raised_by_key(in_key, letter)), octave])
+    return notes
+
+
+def are_sounds(numbers):
+    for number in numbers:
+        if not 0 <= number <= HIGHEST_SOUND:
+            return False
+    return True
+
+
+def spellings_of(sound):
+    """All notes that sound so, in order of their steps."""
+    notes = []
+    for octave in range(LOWEST_OCTAVE, HIGHEST_OCTAVE + 1):
+        for letter in range(LETTERS):
+            raised = sound - sound_of(letter, 0, octave)
+            if is_note(letter, raised, octave):
+                notes.append((letter, raised, octave))
+    return notes
+
+
+def beyond_five(number):
+    return max(abs(number) - NEAR_FIFTHS, 0)
+
+
+def note_cost(sign, far, in_key, note):
+    otherwise = abs(note[1] - raised_by_key(in_key, note[0]))
+    from_middle = fifths_of(note[0], note[1]) - (in_key + MIDDLE_OF_KEY)
+    return sign * otherwise + far * beyond_five(from_middle)
+
+
+def neighbours_cost(apart, same, first, second):
+    cost = apart * beyond_five(fifths_of(second[0], second[1]) - fifths_of(first[0], first[1]))
+    if first[0] == second[0] and first[1] != second[1]:
+        cost += same
+    return cost
+
+
+def put_ahead(apart, same, note, row):
+    """The row with the note ahead of it; what the note costs by itself is not in it yet."""
+    cost = row[0]
+    notes = row[1]
+    if len(notes) > 0:
+        cost += neighbours_cost(apart, same, note, notes[0])
+    return (cost, [note] + notes)
+
+
+def cheapest(rows):
+    # Rows stand in order of their first steps, and min takes the first of those that cost alike.
+    return min(rows, key=lambda row: row[0])
+
+
+def spelled(sign, apart, far, same, in_key, numbers):
+    """What the row costs, and its notes."""
+    # Built from the last note back, keeping for each spelling of a number the cheapest row that begins with it.
+    # Of rows that cost alike the one with the lower first step is taken each time, so the earliest note decides.
+    rows = [(0, [])]
+    for number in reversed(numbers):
+        longer = []
+        for note in spellings_of(number):
+            row = cheapest([put_ahead(apart, same, note, behind) for behind in rows])
+            longer.append((row[0] + note_cost(sign, far, in_key, note), row[1]))
+        rows = longer
+    return cheapest(rows)
+
+
 def counted(numbers):
     return [len(numbers)] + list(numbers)
 
@@ -205,4 +310,27 @@ def write(in_key, bars):
             return [REFUSED]
         answer.extend(counted(written_bar(in_key, notes, letters_otherwise)))
         letters_otherwise = letters_raised_otherwise(in_key, notes)
+    return answer
+
+
+def read(in_key, bars):
+    """Answers how many bars, then each as a list of its notes: letter, raised, octave; or -1 alone."""
+    if not is_key(in_key):
+        return [REFUSED]
+    answer = [bars[0]]
+    for written in written_bars_in(bars):
+        if not are_written(written):
+            return [REFUSED]
+        answer.extend(counted(read_bar(in_key, written)))
+    return answer
+
+
+def spell(sign, apart, far, same, in_key, numbers):
+    """Answers what the row costs, then each note as a list: 3, letter, raised, octave; or -1 alone."""
+    if not is_key(in_key) or len(numbers) > MOST_NUMBERS or not are_sounds(numbers):
+        return [REFUSED]
+    row = spelled(sign, apart, far, same, in_key, numbers)
+    answer = [row[0]]
+    for note in row[1]:
+        answer.extend(counted(note))
     return answer

@@ -27,6 +27,8 @@ class InterfaceTest(unittest.TestCase):
             "move": ["letter", "raised", "octave", "steps", "halves"],
             "key": ["in_key", "steps", "halves"],
             "write": ["in_key", "bars"],
+            "read": ["in_key", "bars"],
+            "spell": ["sign", "apart", "far", "same", "in_key", "numbers"],
         }
         for name, arguments in expected.items():
             with self.subTest(name=name):
@@ -44,6 +46,12 @@ class InterfaceTest(unittest.TestCase):
             notes.write(0, [0]),
             notes.write(0, [2, 2, 3, 1, 4, 3, 1, 4, 2, 3, 0, 5, 4, 0, 5]),
             notes.write(0, [1, 1, 3, 4, 4]),
+            notes.read(0, [0]),
+            notes.read(1, [2, 2, 3, 4, 1, 1, 3, 4, 0, 1, 3, 4, 0]),
+            notes.read(0, [1, 1, 3, 4, 1, 4]),
+            notes.spell(1, 1, 1, 1, 0, []),
+            notes.spell(1, 1, 1, 1, 0, [60, 61]),
+            notes.spell(1, 1, 1, 1, 0, [128]),
         )
         for answer in answers:
             with self.subTest(answer=answer):
@@ -62,6 +70,10 @@ class InterfaceTest(unittest.TestCase):
             notes.key(8, 4, 7)
             notes.write(0, [2, 1, 3, 1, 4, 1, 3, 0, 4])
             notes.write(0, [1, 1, 7, 0, 4])
+            notes.read(0, [2, 1, 3, 4, 1, 1, 1, 3, 4, 0])
+            notes.read(0, [1, 1, 7, 4, 0])
+            notes.spell(1, 1, 1, 1, 0, [60, 61])
+            notes.spell(1, 1, 1, 1, 0, [128])
         self.assertEqual(printed.getvalue(), "")
 
 
