@@ -1,4 +1,4 @@
-"""Notes as they're spelled, the intervals between them, keys, what's written in bars, and numbers spelled."""
+"""Notes as they're spelled: intervals, keys, what's written in bars and for instruments, numbers spelled."""
 
 DONE = 0
 REFUSED = -1
@@ -266,6 +266,18 @@ def spelled(sign, apart, far, same, in_key, numbers):
     return cheapest(rows)
 
 
+def written_for(letter, raised, octave, steps, halves):
+    """The note moved; if that's no note, what sounds so on a neighbouring step, be it a note or not."""
+    note = moved(letter, raised, octave, steps, halves)
+    if is_note(note[0], note[1], note[2]):
+        return note
+    below = moved(letter, raised, octave, steps - 1, halves)
+    above = moved(letter, raised, octave, steps + 1, halves)
+    if abs(above[1]) < abs(below[1]):
+        return above
+    return below
+
+
 def counted(numbers):
     return [len(numbers)] + list(numbers)
 
@@ -334,3 +346,20 @@ def spell(sign, apart, far, same, in_key, numbers):
     for note in row[1]:
         answer.extend(counted(note))
     return answer
+
+
+def part(steps, halves, lowest, highest, in_key, notes):
+    """Answers how many notes don't fit, then 1, the key moved, then of each note a list; or -1 alone.
+
+    The list: 4, letter, raised, octave of what's written for it, and 1 if it fits, else 0.
+    """
+    sounding = notes_in(notes)
+    if not is_interval(steps, halves) or not is_key(in_key) or not are_notes(sounding):
+        return [REFUSED]
+    not_fitting = 0
+    answer = counted([moved_key(in_key, steps, halves)])
+    for letter, raised, octave in sounding:
+        fits = 1 if lowest <= sound_of(letter, raised, octave) <= highest else 0
+        not_fitting += 1 - fits
+        answer.extend(counted(list(written_for(letter, raised, octave, steps, halves)) + [fits]))
+    return [not_fitting] + answer

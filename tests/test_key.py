@@ -1,21 +1,7 @@
 import unittest
 
+from by_the_words import NO_HALVES, NO_KEYS, NO_STEPS, folded
 from spellednotes.notes import key
-
-LOWEST_NUMBER = -2147483648
-HIGHEST_NUMBER = 2147483647
-NO_KEYS = (LOWEST_NUMBER, -8, 8, HIGHEST_NUMBER)
-NO_STEPS = (LOWEST_NUMBER, -101, 101, HIGHEST_NUMBER)
-NO_HALVES = (LOWEST_NUMBER, -201, 201, HIGHEST_NUMBER)
-
-
-def folded(fifths):
-    """What's above 7 ends in the highest twelve keys, what's below -7 in the lowest twelve."""
-    if fifths > 7:
-        return (fifths + 4) % 12 - 4
-    if fifths < -7:
-        return (fifths + 7) % 12 - 7
-    return fifths
 
 
 class KeyTest(unittest.TestCase):

@@ -1,31 +1,9 @@
 import unittest
 
+from by_the_words import NO_HALVES, NO_LETTERS, NO_OCTAVES, NO_RAISINGS, NO_STEPS, every_note, step_and_sound
 from spellednotes.notes import between, move
 
-LOWEST_NUMBER = -2147483648
-HIGHEST_NUMBER = 2147483647
-NO_LETTERS = (LOWEST_NUMBER, -1, 7, HIGHEST_NUMBER)
-NO_RAISINGS = (LOWEST_NUMBER, -4, 4, HIGHEST_NUMBER)
-NO_OCTAVES = (LOWEST_NUMBER, -2, 10, HIGHEST_NUMBER)
-NO_STEPS = (LOWEST_NUMBER, -101, 101, HIGHEST_NUMBER)
-NO_HALVES = (LOWEST_NUMBER, -201, 201, HIGHEST_NUMBER)
-
 C4 = (0, 0, 4)
-NATURAL_SOUNDS = (0, 2, 4, 5, 7, 9, 11)
-
-
-def every_note():
-    return [
-        (letter, raised, octave)
-        for octave in range(-1, 10)
-        for letter in range(7)
-        for raised in range(-3, 4)
-    ]
-
-
-def step_and_sound(note):
-    letter, raised, octave = note
-    return 7 * octave + letter, 12 * (octave + 1) + NATURAL_SOUNDS[letter] + raised
 
 
 class MoveTest(unittest.TestCase):

@@ -1,18 +1,9 @@
 import unittest
 
 from by_the_words import A, B, C, D, E, F, G, NO_KEYS, NO_LETTERS, NO_OCTAVES, NO_RAISINGS
-from by_the_words import Unchangeable, by_key, in_one_list, many_bars
+from by_the_words import Unchangeable, answer_of_read, by_key, handed_to_read, in_one_list, many_bars
+from by_the_words import written_in_one_list
 from spellednotes.notes import read, write
-
-
-def written_in_one_list(bars):
-    """Bars of what's written: letter, octave, and the sign or None."""
-    numbers = [len(bars)]
-    for written in bars:
-        numbers.append(len(written))
-        for letter, octave, sign in written:
-            numbers.extend([letter, octave, 0] if sign is None else [letter, octave, 1, sign])
-    return numbers
 
 
 def notes_by_the_words(in_key, bars):
@@ -28,15 +19,6 @@ def notes_by_the_words(in_key, bars):
     return found
 
 
-def answer_of(bars):
-    answer = [len(bars)]
-    for notes in bars:
-        answer.append(3 * len(notes))
-        for note in notes:
-            answer.extend(note)
-    return answer
-
-
 def many_written(seed, bars, most_notes, letters, signs, octaves):
     return [
         [(letter, octave, sign) for letter, sign, octave in written]
@@ -44,24 +26,10 @@ def many_written(seed, bars, most_notes, letters, signs, octaves):
     ]
 
 
-def handed_to_read(numbers):
-    """What write answered, in the form in which read takes it."""
-    bars = []
-    place = 1
-    for bar in range(numbers[0]):
-        end = place + 1 + numbers[place]
-        bars.append([
-            (numbers[start], numbers[start + 1], numbers[start + 3] if numbers[start + 2] else None)
-            for start in range(place + 1, end, 5)
-        ])
-        place = end
-    return written_in_one_list(bars)
-
-
 class ReadCase(unittest.TestCase):
     def check(self, in_key, bars, expected):
         with self.subTest(in_key=in_key, bars=bars):
-            self.assertEqual(read(in_key, written_in_one_list(bars)), answer_of(expected))
+            self.assertEqual(read(in_key, written_in_one_list(bars)), answer_of_read(expected))
 
     def check_raised(self, in_key, written, raised):
         self.check(in_key, [written], [[
@@ -217,12 +185,12 @@ class RefusedTest(ReadCase):
 
 class WholeTest(ReadCase):
     def check_by_the_words(self, in_key, bars):
-        if read(in_key, written_in_one_list(bars)) != answer_of(notes_by_the_words(in_key, bars)):
+        if read(in_key, written_in_one_list(bars)) != answer_of_read(notes_by_the_words(in_key, bars)):
             self.fail(f"in {in_key} not read by the words: {bars}")
 
     def check_written_and_read(self, in_key, bars):
         written = handed_to_read(write(in_key, in_one_list(bars)))
-        if read(in_key, written) != answer_of(bars):
+        if read(in_key, written) != answer_of_read(bars):
             self.fail(f"in {in_key} not read as they were: {bars}")
 
     def test_many_bars_by_the_words(self):
@@ -272,7 +240,7 @@ class WholeTest(ReadCase):
     def test_what_is_handed_in_is_not_changed_for_a_while(self):
         bars = [[(F, 4, 1), (F, 4, None)], [], [(F, 5, 0)], [(C, 4, None)]]
         answer = read(0, Unchangeable(written_in_one_list(bars)))
-        self.assertEqual(answer, answer_of(notes_by_the_words(0, bars)))
+        self.assertEqual(answer, answer_of_read(notes_by_the_words(0, bars)))
         self.assertEqual(read(0, Unchangeable(written_in_one_list(bars + [[(C, 4, 4)]]))), [-1])
 
     def test_nothing_is_kept(self):

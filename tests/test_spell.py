@@ -1,11 +1,10 @@
 import itertools
 import unittest
 
-from by_the_words import A, B, C, D, E, F, G, HIGHEST_NUMBER, LOWEST_NUMBER, NO_KEYS
+from by_the_words import A, B, C, D, E, F, G, HIGHEST_NUMBER, LOWEST_NUMBER, NATURAL_SOUNDS, NO_KEYS
 from by_the_words import Unchangeable, by_key, drawn_from
 from spellednotes.notes import spell
 
-NATURAL_SOUNDS = (0, 2, 4, 5, 7, 9, 11)
 FIFTHS = (0, 2, 4, -1, 1, 3, 5)
 NO_NUMBERS = (LOWEST_NUMBER, -1, 128, HIGHEST_NUMBER)
 COSTS = (
